@@ -1,0 +1,1 @@
+"""Recursive structures as nodes of a graph, and which of them stand below which."""

@@ -1,0 +1,48 @@
+"""The nodes of one graph, and what each of them is defined as."""
+
+UNDEFINED = 0
+BASE = 1
+ANY = 2
+NONE = 3
+FUNCTION = 4
+RECORD = 5
+SUM = 6
+
+ARGUMENT_STEP = 0
+RESULT_STEP = 1
+FIRST_LABEL_STEP = 2
+
+
+class Node:
+    """A node: its kind, its base number if it is a base, and its part behind each step, by rising step."""
+
+    def __init__(self):
+        self.kind = UNDEFINED
+        self.base = 0
+        self.parts = {}
+
+
+class Graph:
+    """All nodes that there are, each at its number."""
+
+    def __init__(self):
+        self.nodes = []
+
+    def has(self, x):
+        return x < len(self.nodes)
+
+    def is_defined(self, x):
+        return self.nodes[x].kind != UNDEFINED
+
+    def is_whole(self, x):
+        reached = {x: True}
+        waiting = [x]
+        while len(waiting) > 0:
+            node = self.nodes[waiting.pop()]
+            if node.kind == UNDEFINED:
+                return False
+            for part in node.parts.values():
+                if part not in reached:
+                    reached[part] = True
+                    waiting.append(part)
+        return True

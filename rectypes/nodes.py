@@ -1,0 +1,52 @@
+"""The calls on one new graph, as one list of numbers, and their answers, as another."""
+
+from rectypes.compare import answer_sub, answer_why
+from rectypes.define import define_function, define_plain, define_rows, make_node
+from rectypes.graph import Graph
+
+NEW = 1
+PLAIN = 2
+FN = 3
+ROWS = 4
+SUB = 5
+WHY = 6
+
+# By the call's number. For rows the third argument is the row's count, and the row comes on top of these.
+ARGUMENT_COUNTS = {1: 0, 2: 3, 3: 3, 4: 3, 5: 2, 6: 2}
+
+
+def answers(calls):
+    """For each call, in order: how many numbers it answers, then these."""
+    graph = Graph()
+    answered = []
+    start = 0
+    while start < len(calls):
+        end = end_of_call(calls, start)
+        answer = answer_of(graph, calls[start], calls[start + 1:end])
+        answered.append(len(answer))
+        answered.extend(answer)
+        start = end
+    return answered
+
+
+def end_of_call(calls, start):
+    """Where the call that starts there ends."""
+    end = start + 1 + ARGUMENT_COUNTS[calls[start]]
+    if calls[start] == ROWS:
+        return end + calls[end - 1]
+    return end
+
+
+def answer_of(graph, call, given):
+    """The numbers that one call answers."""
+    if call == NEW:
+        return make_node(graph)
+    if call == PLAIN:
+        return define_plain(graph, given[0], given[1], given[2])
+    if call == FN:
+        return define_function(graph, given[0], given[1], given[2])
+    if call == ROWS:
+        return define_rows(graph, given[0], given[1], given[3:])
+    if call == SUB:
+        return answer_sub(graph, given[0], given[1])
+    return answer_why(graph, given[0], given[1])
