@@ -4,9 +4,9 @@ from rectypes.graph import ANY, ARGUMENT_STEP, BASE, FUNCTION, NONE, RECORD, RES
 from rectypes.refusals import NO_PATH, NOT_THERE, NOT_WHOLE
 
 
+# A pair that a path leads to keeps only its last step and the place before, so that a long path is not copied at
+# each step.
 class Place:
-    """A pair of nodes that a path leads to, with the last step there and the place that the step was taken from."""
-
     def __init__(self, below, above, before, step):
         self.below = below
         self.above = above
@@ -15,7 +15,6 @@ class Place:
 
 
 def answer_sub(graph, a, b):
-    """The answer of sub."""
     refused = refusal_of(graph, a, b)
     if refused != 0:
         return [refused]
@@ -25,7 +24,6 @@ def answer_sub(graph, a, b):
 
 
 def answer_why(graph, a, b):
-    """The answer of why."""
     refused = refusal_of(graph, a, b)
     if refused != 0:
         return [refused]
@@ -36,7 +34,6 @@ def answer_why(graph, a, b):
 
 
 def refusal_of(graph, a, b):
-    """Why the two can't be compared, as a refusal's number, or 0 if they can."""
     if not (graph.has(a) and graph.has(b)):
         return NOT_THERE
     if not (graph.is_whole(a) and graph.is_whole(b)):
@@ -44,12 +41,9 @@ def refusal_of(graph, a, b):
     return 0
 
 
+# Places wait in the order of their paths, shorter ones first and those as short number by number; so the first path
+# that comes to a pair is the only one that matters for it, and the first wrong pair ends the search.
 def shortest_path(graph, a, b):
-    """The first of the shortest paths from a below b, or None if there is none.
-
-    Places wait in the order of their paths, shorter ones first and those as short number by number, so the first
-    path that comes to a pair is the only one that matters for it.
-    """
     seen = {(a, b): True}
     waiting = [Place(a, b, None, 0)]
     done = 0
@@ -68,7 +62,6 @@ def shortest_path(graph, a, b):
 
 
 def steps_to(place):
-    """The steps of the path that led to this place."""
     steps = []
     at = place
     while at.before is not None:
@@ -79,7 +72,6 @@ def steps_to(place):
 
 
 def is_wrong_at_once(x, y):
-    """Whether something is wrong at once with x below y."""
     if x.kind == NONE or y.kind == ANY:
         return False
     if x.kind != y.kind:
@@ -87,14 +79,13 @@ def is_wrong_at_once(x, y):
     if x.kind == BASE:
         return x.base != y.base
     if x.kind == RECORD:
-        return lacks_a_step(x, y)
+        return lacks_a_step_of(x, y)
     if x.kind == SUM:
-        return lacks_a_step(y, x)
+        return lacks_a_step_of(y, x)
     return False
 
 
-def lacks_a_step(node, other):
-    """Whether the other has a part at a step where the node has none."""
+def lacks_a_step_of(node, other):
     for step in other.parts:
         if step not in node.parts:
             return True
@@ -102,7 +93,6 @@ def lacks_a_step(node, other):
 
 
 def asked_further(x, y):
-    """What x below y asks further, by rising step: each step with the two nodes that it leads to."""
     if x.kind != y.kind:
         return []
     if x.kind == FUNCTION:

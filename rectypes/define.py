@@ -10,7 +10,6 @@ LAST_LABEL = 255
 
 
 def make_node(graph):
-    """The answer of new."""
     number = len(graph.nodes)
     if number >= MOST_NODES:
         return [NO_ROOM]
@@ -19,7 +18,6 @@ def make_node(graph):
 
 
 def define_plain(graph, x, kind, base):
-    """The answer of plain."""
     if kind not in (BASE, ANY, NONE) or not graph.has(x):
         return [NOT_THERE]
     if kind == BASE and base > LAST_BASE:
@@ -34,7 +32,6 @@ def define_plain(graph, x, kind, base):
 
 
 def define_function(graph, x, argument, result):
-    """The answer of fn."""
     if not (graph.has(x) and graph.has(argument) and graph.has(result)):
         return [NOT_THERE]
     if graph.is_defined(x):
@@ -46,7 +43,6 @@ def define_function(graph, x, argument, result):
 
 
 def define_rows(graph, x, kind, row):
-    """The answer of rows."""
     if kind not in (RECORD, SUM) or not graph.has(x) or not are_rows(graph, row):
         return [NOT_THERE]
     if graph.is_defined(x):
@@ -58,7 +54,6 @@ def define_rows(graph, x, kind, row):
 
 
 def are_rows(graph, row):
-    """Whether the numbers are rows that a node may have."""
     if len(row) % 2 != 0 or len(row) > 2 * MOST_ROWS:
         return False
     labels = row[0::2]
@@ -73,8 +68,8 @@ def are_rows(graph, row):
     return True
 
 
+# Sorted, since the first of the shortest paths is looked for by rising steps.
 def parts_by_step(row):
-    """The parts of a record or a sum; rising, since the first path is looked for by rising steps."""
     parts = {}
     for pair in sorted(zip(row[0::2], row[1::2])):
         parts[FIRST_LABEL_STEP + pair[0]] = pair[1]

@@ -13,9 +13,8 @@ RESULT_STEP = 1
 FIRST_LABEL_STEP = 2
 
 
+# The parts stand by rising step, so that who walks them comes to the first step first.
 class Node:
-    """A node: its kind, its base number if it is a base, and its part behind each step, by rising step."""
-
     def __init__(self):
         self.kind = UNDEFINED
         self.base = 0
@@ -23,8 +22,6 @@ class Node:
 
 
 class Graph:
-    """All nodes that there are, each at its number."""
-
     def __init__(self):
         self.nodes = []
 

@@ -16,7 +16,6 @@ ARGUMENT_COUNTS = {1: 0, 2: 3, 3: 3, 4: 3, 5: 2, 6: 2}
 
 
 def answers(calls):
-    """For each call, in order: how many numbers it answers, then these."""
     graph = Graph()
     answered = []
     start = 0
@@ -30,7 +29,6 @@ def answers(calls):
 
 
 def end_of_call(calls, start):
-    """Where the call that starts there ends."""
     end = start + 1 + ARGUMENT_COUNTS[calls[start]]
     if calls[start] == ROWS:
         return end + calls[end - 1]
@@ -38,7 +36,6 @@ def end_of_call(calls, start):
 
 
 def answer_of(graph, call, given):
-    """The numbers that one call answers."""
     if call == NEW:
         return make_node(graph)
     if call == PLAIN:

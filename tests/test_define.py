@@ -145,7 +145,8 @@ class Rows(unittest.TestCase):
 
     def test_each_label_has_its_own_part(self):
         for kind in (RECORD, SUM):
-            calls = [*made(4), plain(2, BASE, 1), plain(3, BASE, 2), rows(0, kind, 9, 2, 4, 3), rows(1, kind, 9, 3, 4, 2)]
+            calls = [*made(4), plain(2, BASE, 1), plain(3, BASE, 2),
+                     rows(0, kind, 9, 2, 4, 3), rows(1, kind, 9, 3, 4, 2)]
             self.assertEqual(ask_last(*calls, why(0, 1)), [0, 6])
 
     def test_defined_already(self):

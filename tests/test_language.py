@@ -10,13 +10,13 @@ import rectypes
 
 PACKAGE = pathlib.Path(rectypes.__file__).parent
 
-BUILT_IN = """len range enumerate zip min max sum abs sorted reversed int str bool list tuple dict set frozenset isinstance
-    ord repr any all divmod Exception ValueError TypeError KeyError IndexError LookupError ZeroDivisionError
+BUILT_IN = """len range enumerate zip min max sum abs sorted reversed int str bool list tuple dict set frozenset
+    isinstance ord repr any all divmod Exception ValueError TypeError KeyError IndexError LookupError ZeroDivisionError
     ArithmeticError OverflowError RuntimeError NotImplementedError StopIteration""".split()
 
 OWN_METHODS_OF_PYTHON = """append clear copy count endswith extend find get index insert isalnum isalpha isdigit islower
-    isspace isupper items join keys ljust lower lstrip partition pop remove replace reverse rfind rjust rpartition rsplit
-    rstrip setdefault split splitlines startswith strip update upper values zfill bit_length""".split()
+    isspace isupper items join keys ljust lower lstrip partition pop remove replace reverse rfind rjust rpartition
+    rsplit rstrip setdefault split splitlines startswith strip update upper values zfill bit_length""".split()
 
 UNUSED_WORDS = r"""\b(type|typing|typing_extensions|enum|Enum|IntEnum|StrEnum|Flag|IntFlag|Generic|Protocol|ABC|ABCMeta
     |namedtuple|NamedTuple|TypedDict|TYPE_CHECKING|abstractmethod)\b|dataclass|overload|contextmanager"""
@@ -37,6 +37,7 @@ class Language(unittest.TestCase):
         self.files = sorted(PACKAGE.glob("*.py"))
         self.texts = {path.name: path.read_text(encoding="utf-8") for path in self.files}
         self.trees = {name: ast.parse(text) for name, text in self.texts.items()}
+        self.tops = [tree.body[0] for tree in self.trees.values()]
 
     def each(self, *kinds):
         for name, tree in self.trees.items():
@@ -68,6 +69,8 @@ class Language(unittest.TestCase):
             self.assertIsInstance(node, STATEMENTS, where)
         for where, node in self.each(ast.expr):
             self.assertIsInstance(node, EXPRESSIONS, where)
+        for where, node in self.each(ast.Expr):
+            self.assertTrue(isinstance(node.value, ast.Call) or node in self.tops, where)
         for where, node in self.each(ast.Assign):
             self.assertEqual(len(node.targets), 1, where)
         for where, node in self.each(ast.While, ast.For):
@@ -86,8 +89,9 @@ class Language(unittest.TestCase):
             self.assertEqual(node.level, 0, where)
             self.assertRegex(node.module, r"^rectypes\.[a-z_]+$", where)
             source = node.module.split(".")[1] + ".py"
-            defined = [thing.name for thing in self.trees[source].body if isinstance(thing, (ast.FunctionDef, ast.ClassDef))]
-            defined += [thing.targets[0].id for thing in self.trees[source].body if isinstance(thing, ast.Assign)]
+            things = self.trees[source].body
+            defined = [thing.name for thing in things if isinstance(thing, (ast.FunctionDef, ast.ClassDef))]
+            defined += [thing.targets[0].id for thing in things if isinstance(thing, ast.Assign)]
             for alias in node.names:
                 self.assertIn(alias.name, defined, where)
             drawn[where.split(":")[0]].append(source)
@@ -117,22 +121,24 @@ class Language(unittest.TestCase):
     def test_functions_and_classes(self):
         for where, node in self.each(ast.FunctionDef):
             self.assertEqual(node.decorator_list, [], where)
-            self.assertFalse(node.args.vararg or node.args.kwarg or node.args.kwonlyargs or node.args.posonlyargs, where)
+            given = node.args
+            self.assertFalse(given.vararg or given.kwarg or given.kwonlyargs or given.posonlyargs, where)
         for where, node in self.each(ast.ClassDef):
             self.assertEqual(node.decorator_list + node.keywords, [], where)
-            for thing in node.body[1:]:
+            for thing in node.body:
                 self.assertIsInstance(thing, ast.FunctionDef, where)
 
     def test_names(self):
         for name, tree in self.trees.items():
-            bound = {node.id for node in ast.walk(tree) if isinstance(node, ast.Name) and isinstance(node.ctx, ast.Store)}
+            names = [node for node in ast.walk(tree) if isinstance(node, ast.Name)]
+            bound = {node.id for node in names if isinstance(node.ctx, ast.Store)}
             bound |= {node.arg for node in ast.walk(tree) if isinstance(node, ast.arg)}
             bound |= {node.name for node in tree.body if isinstance(node, (ast.FunctionDef, ast.ClassDef))}
             bound |= {alias.name for node in tree.body if isinstance(node, ast.ImportFrom) for alias in node.names}
             for word in bound:
                 self.assertRegex(word, r"^[A-Za-z][A-Za-z0-9_]*$", name)
                 self.assertNotIn(word, dir(builtins) + UNUSED_NAMES, name)
-            read = {node.id for node in ast.walk(tree) if isinstance(node, ast.Name)} - bound
+            read = {node.id for node in names} - bound
             self.assertLessEqual(read, set(BUILT_IN), name)
 
     def test_methods(self):

@@ -26,7 +26,7 @@ def some_definition(picks, x, nodes):
 
 
 def some_cyclic_definition(picks, x, nodes):
-    """Nearly all records, or nearly all sums, none without a part, so that most pairs ask further and paths are long."""
+    """Nearly all records, or nearly all sums, each with a part, so that most pairs ask further and paths are long."""
     if picks.below(8) == 0:
         return fn(x, picks.below(nodes), picks.below(nodes))
     row = [0, picks.below(nodes), 1, picks.below(nodes), 2, picks.below(nodes)]
@@ -100,8 +100,8 @@ class NodesAreNeverChanged(unittest.TestCase):
                      rows(x, 5, 1, 0), rows(x, 6, 9, 2)]
             self.assertEqual(ask(*self.defined, *again)[-len(again):], [[-3]] * len(again))
             self.assertEqual(self.after(again), before)
-            wrong = [plain(x, 0), plain(x, 1, 256), fn(x, 8, 0), fn(x, 0, BIG), rows(x, 4, 1, 0), rows(x, 5, 1, 0, 1, 1),
-                     rows(x, 6, 256, 0), rows(x, 5, 1, 8), rows(x, 5, 1)]
+            wrong = [plain(x, 0), plain(x, 1, 256), fn(x, 8, 0), fn(x, 0, BIG), rows(x, 4, 1, 0),
+                     rows(x, 5, 1, 0, 1, 1), rows(x, 6, 256, 0), rows(x, 5, 1, 8), rows(x, 5, 1)]
             self.assertEqual(ask(*self.defined, *wrong)[-len(wrong):], [[-1]] * len(wrong))
             self.assertEqual(self.after(wrong), before)
 
@@ -119,8 +119,8 @@ class NodesAreNeverChanged(unittest.TestCase):
         self.assertEqual(answered[-128:], answered[-256:-128])
 
     def test_a_node_can_be_defined_just_once_after_refusals(self):
-        calls = [*made(2), plain(0, 2), fn(1, 5, 0), rows(1, 5, 3, 0, 3, 0), plain(1, 1, 256), sub(1, 1), rows(1, 5, 3, 0),
-                 fn(1, 0, 0), sub(1, 0), why(0, 1)]
+        calls = [*made(2), plain(0, 2), fn(1, 5, 0), rows(1, 5, 3, 0, 3, 0), plain(1, 1, 256), sub(1, 1),
+                 rows(1, 5, 3, 0), fn(1, 0, 0), sub(1, 0), why(0, 1)]
         self.assertEqual(ask(*calls)[2:], [[0], [-1], [-1], [-1], [-4], [0], [-3], [0, 1], [0]])
 
     def test_over_many_rows_of_calls(self):
