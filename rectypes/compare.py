@@ -1,7 +1,7 @@
 """The calls that compare two nodes: whether one is below the other, and where not, the way to what is wrong."""
 
 from rectypes.graph import ANY, ARGUMENT_STEP, BASE, FUNCTION, NONE, RECORD, RESULT_STEP, SUM
-from rectypes.refusals import NO_PATH, NOT_THERE, NOT_WHOLE
+from rectypes.refusals import NO_PATH, refusal_of_two
 
 
 # A pair that a path leads to keeps only its last step and the place before, so that a long path is not copied at
@@ -15,7 +15,7 @@ class Place:
 
 
 def answer_sub(graph, a, b):
-    refused = refusal_of(graph, a, b)
+    refused = refusal_of_two(graph, a, b)
     if refused != 0:
         return [refused]
     if shortest_path(graph, a, b) is None:
@@ -24,21 +24,13 @@ def answer_sub(graph, a, b):
 
 
 def answer_why(graph, a, b):
-    refused = refusal_of(graph, a, b)
+    refused = refusal_of_two(graph, a, b)
     if refused != 0:
         return [refused]
     path = shortest_path(graph, a, b)
     if path is None:
         return [NO_PATH]
     return [0] + path
-
-
-def refusal_of(graph, a, b):
-    if not (graph.has(a) and graph.has(b)):
-        return NOT_THERE
-    if not (graph.is_whole(a) and graph.is_whole(b)):
-        return NOT_WHOLE
-    return 0
 
 
 # Places wait in the order of their paths, shorter ones first and those as short number by number; so the first path

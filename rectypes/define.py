@@ -1,10 +1,9 @@
 """The calls that make nodes and define them."""
 
-from rectypes.graph import ANY, ARGUMENT_STEP, BASE, FIRST_LABEL_STEP, FUNCTION, NONE, RECORD, RESULT_STEP, SUM, Node
+from rectypes.graph import ANY, ARGUMENT_STEP, BASE, FIRST_LABEL_STEP, FUNCTION, MOST_NODES, MOST_ROWS, NONE, RECORD
+from rectypes.graph import RESULT_STEP, SUM, UNDEFINED, Node
 from rectypes.refusals import DEFINED_ALREADY, NO_ROOM, NOT_THERE
 
-MOST_NODES = 64
-MOST_ROWS = 8
 LAST_BASE = 255
 LAST_LABEL = 255
 
@@ -13,7 +12,7 @@ def make_node(graph):
     number = len(graph.nodes)
     if number >= MOST_NODES:
         return [NO_ROOM]
-    graph.nodes.append(Node())
+    graph.nodes.append(Node(UNDEFINED, 0, {}))
     return [0, number]
 
 

@@ -12,13 +12,17 @@ ARGUMENT_STEP = 0
 RESULT_STEP = 1
 FIRST_LABEL_STEP = 2
 
+MOST_NODES = 64
+MOST_ROWS = 8
 
-# The parts stand by rising step, so that who walks them comes to the first step first.
+
+# The parts stand by rising step, so that who walks them comes to the first step first. The base is 0 unless the
+# kind is BASE, so that of two nodes of one kind it can be compared whatever that kind is.
 class Node:
-    def __init__(self):
-        self.kind = UNDEFINED
-        self.base = 0
-        self.parts = {}
+    def __init__(self, kind, base, parts):
+        self.kind = kind
+        self.base = base
+        self.parts = parts
 
 
 class Graph:

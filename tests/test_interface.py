@@ -7,7 +7,8 @@ import unittest
 from unittest import mock
 
 from rectypes.nodes import answers
-from tests.helpers import ANY, BASE, BIG, NONE, ask, flat, fn, made, new, plain, record, sub, variant, why
+from tests.helpers import (ANY, BASE, BIG, NONE, ask, flat, fn, join, kind, label, made, meet, new, part, plain, record,
+                           sub, value, variant, why)
 
 
 def refuse(*given, **named):
@@ -23,7 +24,9 @@ class Unchangeable(list):
 
 ALL_CALLS = flat([
     *made(5), plain(0, BASE, 7), plain(1, ANY), fn(2, 2, 0), record(3, 9, 2, 4, 0), variant(4, 9, 2),
-    sub(2, 2), why(3, 4), why(2, 2), sub(0, 99), plain(0, NONE), record(3, 1),
+    sub(2, 2), why(3, 4), why(2, 2), sub(0, 99), plain(0, NONE), record(3, 1), join(3, 3), meet(4, 4), join(2, 99),
+    meet(0, 1), kind(3), kind(99), value(0), value(1), part(3, 6), part(3, 0), label(3, 1), label(3, 2), sub(5, 3),
+    new(),
 ])
 
 
@@ -37,6 +40,24 @@ class Answers(unittest.TestCase):
     def test_a_path_stands_without_a_count_of_its_own(self):
         calls = flat([*made(4), plain(0, BASE, 1), plain(1, BASE, 2), fn(2, 0, 0), fn(3, 0, 1), why(2, 3), why(0, 1)])
         self.assertEqual(answers(calls), [2, 0, 0, 2, 0, 1, 2, 0, 2, 2, 0, 3, 1, 0, 1, 0, 1, 0, 1, 0, 2, 0, 1, 1, 0])
+
+    def test_how_the_calls_7_to_12_stand_in_the_list(self):
+        start = [1, 2, 0, 1, 5]
+        answered = [2, 0, 0, 1, 0]
+        for call, answer in (([7, 0, 0], [2, 0, 1]), ([8, 0, 0], [2, 0, 1]), ([9, 0], [2, 0, 1]), ([10, 0], [2, 0, 5]),
+                             ([11, 0, 0], [1, -1]), ([12, 0, 0], [1, -1]), ([9, 1], [1, -1]), ([10, 1], [1, -1]),
+                             ([7, 0, 1], [1, -1]), ([8, 1, 0], [1, -1])):
+            self.assertEqual(answers([*start, *call]), [*answered, *answer])
+            self.assertEqual(answers([*start, *call, 5, 0, 0]), [*answered, *answer, 2, 0, 1])
+            self.assertEqual(answers([*call, 1]), [1, -1, 2, 0, 0])
+        rows_and_look = [1, 4, 0, 6, 4, 9, 0, 3, 0, 11, 0, 5, 12, 0, 1, 11, 0, 12, 9, 0]
+        self.assertEqual(answers(rows_and_look), [2, 0, 0, 1, 0, 2, 0, 0, 2, 0, 9, 1, -1, 2, 0, 6])
+
+    def test_all_twelve_in_one_list(self):
+        told = ask(new(), new(), plain(0, BASE, 3), record(1, 7, 1, 2, 0), join(1, 1), kind(2), part(2, 9), part(2, 4),
+                   label(2, 0), value(3), fn(0, 0, 0), meet(1, 2), sub(4, 2), why(0, 1), why(2, 4))
+        self.assertEqual(told, [[0, 0], [0, 1], [0], [0], [0, 2], [0, 5], [0, 2], [0, 3], [0, 2], [0, 3], [-3], [0, 4],
+                                [0, 1], [0], [-5]])
 
     def test_rows_of_many_lengths_are_passed_over_rightly(self):
         for count in range(41):
